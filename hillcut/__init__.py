@@ -1,0 +1,1 @@
+"""Hillcut: hills over straight ground, and rings round points."""
