@@ -31,6 +31,8 @@ METHODS = tuple(
     " rjust rpartition rsplit rstrip setdefault split splitlines startswith strip update upper"
     " values zfill bit_length".split()
 )
+ROWS = ("zip", "enumerate", "reversed", "range")
+WALKERS = ("list", "tuple", "dict", "sorted", "sum", "any", "all", "enumerate", "min", "max")
 WORDS = re.compile(
     r"\b(type|typing|typing_extensions|enum|Enum|IntEnum|StrEnum|Flag|IntFlag|Generic|Protocol|ABC"
     r"|ABCMeta|namedtuple|NamedTuple|TypedDict|TYPE_CHECKING|abstractmethod)\b"
@@ -198,6 +200,57 @@ def node_faults(node, own_methods):
     return faults
 
 
+def own_name_faults(tree):
+    """A parameter or a local that is called like a class or an import of its file, or a name bound twice."""
+    tops = [node.name for node in tree.body if isinstance(node, (ast.FunctionDef, ast.ClassDef))]
+    taken = [node.name for node in tree.body if isinstance(node, ast.ClassDef)]
+    for node in tree.body:
+        if isinstance(node, ast.ImportFrom):
+            taken += [part.asname or part.name for part in node.names]
+            tops += [part.asname or part.name for part in node.names]
+        if isinstance(node, ast.Assign):
+            tops += [target.id for target in node.targets if isinstance(target, ast.Name)]
+    faults = [f"L15 {name}: bound twice" for name in sorted(set(tops)) if tops.count(name) > 1]
+    for node in ast.walk(tree):
+        if isinstance(node, ast.arg) and node.arg in taken:
+            faults.append(f"L15 line {node.lineno}: {node.arg}")
+        if isinstance(node, ast.Name) and isinstance(node.ctx, ast.Store) and node.id in taken:
+            faults.append(f"L15 line {node.lineno}: {node.id}")
+    return faults
+
+
+def calls(node, names):
+    return isinstance(node, ast.Call) and isinstance(node.func, ast.Name) and node.func.id in names
+
+
+def walked_on_the_spot(node, around):
+    if isinstance(around, (ast.For, ast.comprehension)):
+        return around.iter is node
+    return calls(around, WALKERS) and around.args[:1] == [node] or calls(around, ("zip",))
+
+
+def set_on_the_spot(node, around):
+    if isinstance(around, ast.Compare):
+        return all(isinstance(sign, (ast.In, ast.NotIn, ast.Eq, ast.NotEq)) for sign in around.ops)
+    return calls(around, ("sorted", "len")) and not around.keywords
+
+
+def spot_faults(tree):
+    """Rows of values that are kept and not walked at once, and sets that are kept or walked."""
+    around = {part: node for node in ast.walk(tree) for part in ast.iter_child_nodes(node)}
+    faults = []
+    for node in ast.walk(tree):
+        if calls(node, ROWS) and not walked_on_the_spot(node, around[node]):
+            faults.append(f"L23 line {node.lineno}: {node.func.id} is kept")
+        if calls(node, ("set", "frozenset")):
+            outer = around[node]
+            while isinstance(outer, ast.BinOp):
+                outer = around[outer]
+            if not set_on_the_spot(node, outer):
+                faults.append(f"L24 line {node.lineno}: a set is kept or walked")
+    return faults
+
+
 def methods_of(text):
     classes = [node for node in ast.walk(ast.parse(text)) if isinstance(node, ast.ClassDef)]
     return tuple(part.name for node in classes for part in node.body if isinstance(part, ast.FunctionDef))
@@ -205,7 +258,7 @@ def methods_of(text):
 
 def file_faults(text, own_methods=()):
     tree = ast.parse(text)
-    faults = text_faults(text) + top_faults(tree)
+    faults = text_faults(text) + top_faults(tree) + own_name_faults(tree) + spot_faults(tree)
     for node in ast.walk(tree):
         faults += node_faults(node, own_methods)
     return faults

@@ -38,11 +38,27 @@ FORBIDDEN = (
     ("L14", "def f(a):\n\treturn a\n"),
     ("L15", "def f(map):\n    return map\n"),
     ("L15", "def f(a):\n    sum = a\n    return sum\n"),
+    ("L15", "from hillcut.points import turned\n\n\ndef f(turned):\n    return turned\n"),
+    ("L15", "class Spot:\n    pass\n\n\ndef f(a):\n    Spot = a\n    return Spot\n"),
+    ("L15", "MOST = 1\nMOST = 2\n"),
     ("L17", "# a type of points\n"),
     ("L20", "def f(a, b):\n    return a is b\n"),
+    ("L23", "def f(a):\n    b = reversed(a)\n    return list(b)\n"),
+    ("L23", "def f(a):\n    return range(a)\n"),
+    ("L24", "def f(a):\n    b = set(a)\n    return len(b)\n"),
+    ("L24", "def f(a):\n    return [b for b in set(a)]\n"),
+    ("L24", "def f(a, b):\n    return sorted(set(a), key=b)\n"),
     ("L25", "def f(a):\n    a.sort()\n"),
     ("L27", "def f(a):\n    return 2 ** a\n"),
     ("L27", "WORDS = '50 %'\n"),
+)
+
+ALLOWED = (
+    '"""Words."""\n\nfrom hillcut.points import apart\n\nMOST = 210\n\n\ndef f(a):\n    return apart(a, a) is None\n',
+    "def f(a):\n    return [b for b in sorted(set(a) - set(a[1:]))]\n",
+    "def f(a, b):\n    return a in set(b) or set(a) == set(b)\n",
+    "def f(a):\n    return list(reversed(a)) + [b for b in range(len(a))]\n",
+    "def f(a):\n    for b in zip(range(3), a):\n        return b\n",
 )
 
 
@@ -67,8 +83,8 @@ class Form(unittest.TestCase):
 
     def test_the_files_of_the_interface_are_there(self):
         names = [path.name for path in package_files()]
-        for name in ("__init__.py", "errors.py", "points.py", "near.py"):
-            self.assertIn(name, names)
+        for module in ("__init__", "errors", "points", "near", "rings", "hills", "cutting", "grid"):
+            self.assertIn(f"{module}.py", names)
 
     def test_what_is_forbidden_is_seen(self):
         for rule, text in FORBIDDEN:
@@ -77,8 +93,9 @@ class Form(unittest.TestCase):
                 self.assertTrue(any(rule in fault.split() for fault in faults), faults)
 
     def test_what_is_allowed_is_let_through(self):
-        text = '"""Words."""\n\nfrom hillcut.points import apart\n\nMOST = 210\n\n\ndef f(a):\n    return apart(a, a) is None\n'
-        self.assertEqual(form.file_faults(text), [])
+        for text in ALLOWED:
+            with self.subTest(text=text):
+                self.assertEqual(form.file_faults(text), [])
 
     def test_file_names(self):
         self.assertEqual(form.file_name_faults("points.py"), [])
